@@ -1,0 +1,1 @@
+"""Jobs and tasks with due dates, admitted and run under budgets of faults."""
