@@ -10,6 +10,11 @@ def is_between(value, low, high):
     return isinstance(value, int) and not isinstance(value, bool) and low <= value <= high
 
 
+def is_count(value):
+    """Is the value an integer from 0 on?"""
+    return isinstance(value, int) and not isinstance(value, bool) and value >= 0
+
+
 def is_row(value, fewest, most):
     """Is the value a tuple of fewest to most things?"""
     return isinstance(value, tuple) and fewest <= len(value) <= most

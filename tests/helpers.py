@@ -1,8 +1,10 @@
-"""What several tests need: refusals, values that are no integers, small budgets, and plain walks over them."""
+"""What several tests need: refusals, values that are no integers, small budgets and systems, and plain walks."""
 import random
+from functools import lru_cache
 from itertools import product
 
 from faultdue.errors import BadSystem
+from faultdue.systems import check_system, horizon_of
 
 # What stands where an integer belongs, and is none.
 NO_INTEGERS = (True, False, None, "1", "", (), (1,), [1])
@@ -68,3 +70,107 @@ def some_budgets(count):
         capacities = [draw.randint(0, 3) for _ in range(many)]
         found.append(budgets_of(capacities, parents))
     return found
+
+
+def drawn_budgets(draw, most=4):
+    """Some budgets with capacities from 0 to 2."""
+    many = draw.randint(1, most)
+    return budgets_of([draw.randint(0, 2) for _ in range(many)], [draw.randint(-1, k - 1) for k in range(many)])
+
+
+def drawn_segments(draw, many, most=4):
+    return tuple((draw.randint(1, most), draw.randrange(many)) for _ in range(draw.choice((1, 1, 2, 3))))
+
+
+def drawn_job(draw, name, many, latest=12, room=40):
+    """A job, sometimes partly or wholly executed in its first segment."""
+    release = draw.randint(0, latest)
+    segments = drawn_segments(draw, many)
+    done = draw.choice((0, 0, draw.randint(0, segments[0][0])))
+    return ("job", name, release, release + draw.randint(0, room), done, segments)
+
+
+def drawn_task(draw, name, many, latest=12):
+    return ("task", name, draw.randint(0, latest), draw.randint(4, 30), draw.randint(0, 30), drawn_segments(draw, many))
+
+
+def drawn_system(draw):
+    """A small system that check_system lets."""
+    while True:
+        budgets = drawn_budgets(draw)
+        many = len(budgets)
+        jobs = tuple(drawn_job(draw, "j" + "abcd"[k], many) for k in range(draw.randint(0, 4)))
+        tasks = tuple(drawn_task(draw, "t" + "abcd"[k], many) for k in range(draw.randint(0, 2)))
+        system = ("system", budgets, jobs, tasks)
+        # Slow to walk through are the ones whose rate is near 1.
+        if refusal(check_system, system) is None and horizon_of(system) <= 150:
+            return system
+
+
+def drawn_systems(count, seed=1):
+    """Small systems that check_system lets, the same at each call; sure ones and others."""
+    draw = random.Random(seed)
+    return [drawn_system(draw) for _ in range(count)]
+
+
+def plain_inside(system, s, e):
+    """(work, segments) of all jobs and bodies in the interval, one by one, straight from d1."""
+    found = []
+    for _, _, release, due, done, segments in system[2]:
+        if release >= s and due <= e:
+            found.append((sum(length for length, _ in segments) - done, segments))
+    for _, _, first, gap, due, segments in system[3]:
+        time = max(s, first)
+        while time + due <= e:
+            found.append((sum(length for length, _ in segments), segments))
+            time += gap
+    return found
+
+
+def plain_demand(system, s, e):
+    return sum(work for work, _ in plain_inside(system, s, e))
+
+
+def plain_penalties(system, s, e):
+    found = [0] * len(system[1])
+    for _, segments in plain_inside(system, s, e):
+        for length, source in segments:
+            found[source] = max(found[source], length)
+    return tuple(found)
+
+
+def plain_recovery(budgets, penalties):
+    """The worst recovery among all assignments within the budgets."""
+    return max(sum(p * f for p, f in zip(penalties, faults)) for faults in assignments_of(budgets))
+
+
+@lru_cache(maxsize=None)
+def assignments_of(budgets):
+    return assignments(budgets)
+
+
+def plain_slack(system, s, e):
+    return e - s - plain_demand(system, s, e) - plain_recovery(system[1], plain_penalties(system, s, e))
+
+
+def plain_ends(system, s, most):
+    """The ends of s up to most, each time asked whether it is one."""
+    found = []
+    for e in range(most + 1):
+        of_jobs = any(release >= s and due == e for _, _, release, due, _, _ in system[2])
+        of_tasks = any(
+            e >= max(s, first) + due and (e - max(s, first) - due) % gap == 0 for _, _, first, gap, due, _ in system[3]
+        )
+        if of_jobs or of_tasks:
+            found.append(e)
+    return found
+
+
+def plain_walk(system):
+    """(s, e, slack) of all intervals of d2."""
+    latest = max([item[2] for item in system[2] + system[3]], default=0)
+    return [
+        (s, e, plain_slack(system, s, e))
+        for s in range(latest + 1)
+        for e in plain_ends(system, s, s + horizon_of(system))
+    ]
