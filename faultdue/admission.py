@@ -20,9 +20,9 @@ def is_sure(system):
     horizon = horizon_of(system)
     loads = loads_of(system)
     recoveries = {}
-    # The starts between two releases (or firsts) need not be looked at: with the later of the two as its start, an
-    # interval of the same length has all that theirs have. The same jobs and tasks are still to come, and more of
-    # them are in it, and what the tasks ahead of it have hangs on its length alone.
+    # A start that is no release and no first need not be looked at: an interval as long from the next one on has all
+    # that it has. The same jobs and tasks are still to come, more of them are in it, and what the tasks that could
+    # come ahead of it have in it hangs on its length alone.
     for s in sorted({item[2] for item, _, _ in loads}):
         if not is_clear(budgets, loads, s, horizon, recoveries):
             return False

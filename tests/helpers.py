@@ -174,3 +174,42 @@ def plain_walk(system):
         for s in range(latest + 1)
         for e in plain_ends(system, s, s + horizon_of(system))
     ]
+
+
+def drawn_arrivals(draw, system, most=6):
+    """Arrivals in which some bodies come just a gap apart, and others later."""
+    found = []
+    for _, _, first, gap, _, _ in system[3]:
+        releases = []
+        time = first
+        for _ in range(draw.randint(0, most)):
+            time += draw.choice((0, 0, 1, draw.randint(0, 20)))
+            releases.append(time)
+            time += gap
+        found.append(tuple(releases))
+    return tuple(found)
+
+
+def plain_items(system, arrivals):
+    """(release, due, done, segments) of each item, straight from e1."""
+    items = [(release, due, done, segments) for _, _, release, due, done, segments in system[2]]
+    for k, (_, _, _, _, due, segments) in enumerate(system[3]):
+        for release in arrivals[k]:
+            items.append((release, release + due, 0, segments))
+    return items
+
+
+def drawn_plan(draw, system, arrivals, within):
+    """A plan of faults, drawn one by one as long as they are within the budgets (or just some of them)."""
+    items = plain_items(system, arrivals)
+    places = [(k, at) for k, item in enumerate(items) for at in range(len(item[3]))]
+    counts = {}
+    faults = (0,) * len(system[1])
+    for _ in range(draw.randint(0, 8) if places else 0):
+        place = draw.choice(places)
+        source = items[place[0]][3][place[1]][1]
+        more = put(faults, source, faults[source] + 1)
+        if fits(system[1], more) or not within:
+            faults = more
+            counts[place] = counts.get(place, 0) + 1
+    return tuple((k, at, counts[k, at]) for k, at in sorted(counts))

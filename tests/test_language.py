@@ -1,4 +1,4 @@
-"""The rules of the language that can be read off the files: L1, L2, L8, L10, L14 and L17."""
+"""The rules of the language that can be read off the files: L1, L2, L3, L8, L10, L14, L15 and L17."""
 import ast
 import unittest
 from pathlib import Path
@@ -78,6 +78,33 @@ class LanguageTest(unittest.TestCase):
         for path in FILES:
             names = set(bound_names(tree_of(path)))
             self.assertEqual(names & (BUILTINS | BARRED), set(), path)
+
+    def test_statements_at_module_level(self):
+        for path in FILES:
+            names = []
+            for node in tree_of(path).body:
+                if isinstance(node, ast.Assign):
+                    self.assertEqual([ast.Name], [target.__class__ for target in node.targets], (path, node.lineno))
+                    names.append(node.targets[0].id)
+                elif isinstance(node, ast.ImportFrom):
+                    names.extend([alias.name for alias in node.names])
+                elif isinstance(node, (ast.FunctionDef, ast.ClassDef)):
+                    names.append(node.name)
+                else:
+                    self.assertIsInstance(node.value, ast.Constant, (path, node.lineno))
+            self.assertEqual(len(names), len(set(names)), path)
+
+    def test_names_in_functions_are_no_imports_and_no_classes(self):
+        for path in FILES:
+            tree = tree_of(path)
+            taken = {alias.name for node in tree.body if isinstance(node, ast.ImportFrom) for alias in node.names}
+            taken |= {node.name for node in tree.body if isinstance(node, ast.ClassDef)}
+            for function in ast.walk(tree):
+                if isinstance(function, ast.FunctionDef):
+                    inside = {node.id for node in ast.walk(function)
+                              if isinstance(node, ast.Name) and isinstance(node.ctx, ast.Store)}
+                    inside |= {node.arg for node in ast.walk(function) if isinstance(node, ast.arg)}
+                    self.assertEqual(inside & taken, set(), (path, function.name))
 
     def test_no_percent_sign_and_no_float_in_values(self):
         for path in FILES:
