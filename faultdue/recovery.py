@@ -6,13 +6,18 @@ def worst(budgets, penalties):
     """The worst recovery and the assignment that reaches it (b4)."""
     left = [budget[1] for budget in budgets]
     faults = [0] * len(budgets)
-    for source in sorted(range(len(budgets)), key=lambda at: (-penalties[at], at)):
-        if penalties[source] > 0:
-            path = with_above(budgets, source)
-            faults[source] = min([left[k] for k in path])
-            for k in path:
-                left[k] -= faults[source]
+    for source in in_turn(penalties):
+        path = with_above(budgets, source)
+        faults[source] = min([left[k] for k in path])
+        for k in path:
+            left[k] -= faults[source]
     return recovery_of(penalties, faults), tuple(faults)
+
+
+def in_turn(penalties):
+    """The sources with a penalty above 0, greater penalties first, of equal ones the lower index."""
+    sources = [k for k, penalty in enumerate(penalties) if penalty > 0]
+    return sorted(sources, key=lambda k: (-penalties[k], k))
 
 
 def recovery_of(penalties, faults):

@@ -53,24 +53,30 @@ def shown_segments(budgets, segments):
 
 def parse(text):
     """The system of a text; raise BadSystem where there is none (s7)."""
-    check_characters(text, MOST_CHARACTERS)
+    rows, last = rows_of(text, MOST_CHARACTERS)
     budgets, jobs, tasks = [], [], []
-    lines = text.split("\n")
-    for line, row in enumerate(lines, start=1):
-        words = words_of(row)
-        if words and words[0] == "budget":
+    for line, words in rows:
+        if words[0] == "budget":
             budgets.append(read_budget(line, words, budgets))
-        elif words:
+        else:
             item = read_item(line, words, budgets, [taken[1] for taken in jobs + tasks])
             alike, most = (jobs, MOST_JOBS) if item[0] == "job" else (tasks, MOST_TASKS)
             if len(alike) == most:
                 raise BadSystem(line, "too many")
             alike.append(item)
     if not budgets:
-        raise BadSystem(len(lines), "no budgets")
+        raise BadSystem(last, "no budgets")
     system = ("system", tuple(budgets), tuple(jobs), tuple(tasks))
     check_system(system)
     return system
+
+
+def rows_of(text, most):
+    """(line, words) of all lines of a text that have words, and the number of the last line."""
+    check_characters(text, most)
+    lines = text.split("\n")
+    rows = [(line, words_of(row)) for line, row in enumerate(lines, start=1)]
+    return [row for row in rows if row[1]], len(lines)
 
 
 def check_characters(text, most):

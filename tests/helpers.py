@@ -213,3 +213,69 @@ def drawn_plan(draw, system, arrivals, within):
             faults = more
             counts[place] = counts.get(place, 0) + 1
     return tuple((k, at, counts[k, at]) for k, at in sorted(counts))
+
+
+class PlainItem:
+    """An item as the unit by unit walk executes it."""
+
+    def __init__(self, item, counts):
+        self.release, self.due, self.done, self.segments = item
+        self.counts = counts
+        self.segment = self.attempt = 0
+        self.end = None
+        self.settle(self.release)
+
+    def settle(self, now):
+        """An attempt that is executed whole is found at once to be faulty or not (e3)."""
+        while self.end is None and self.done == self.segments[self.segment][0]:
+            self.done = 0
+            if self.attempt < self.counts.get(self.segment, 0):
+                self.attempt += 1
+            else:
+                self.segment, self.attempt = self.segment + 1, 0
+                self.end = now if self.segment == len(self.segments) else None
+
+
+def plain_run(system, arrivals, plan):
+    """The run, unit by unit."""
+    items = [
+        PlainItem(item, {segment: count for at, segment, count in plan if at == k})
+        for k, item in enumerate(plain_items(system, arrivals))
+    ]
+    units = []
+    now = 0
+    while any(item.end is None for item in items):
+        ready = [(item.due, k) for k, item in enumerate(items) if item.release <= now and item.end is None]
+        if ready:
+            k = min(ready)[1]
+            units.append((now, k, items[k].segment, items[k].attempt))
+            items[k].done += 1
+            items[k].settle(now + 1)
+        now += 1
+    ends = tuple(item.end for item in items)
+    return slices_of(units), ends, tuple(k for k, item in enumerate(items) if item.end > item.due)
+
+
+def slices_of(units):
+    """The longest stretches of the units."""
+    slices = []
+    for time, *what in units:
+        if slices and slices[-1][1] == time and slices[-1][2:] == what:
+            slices[-1][1] += 1
+        else:
+            slices.append([time, time + 1] + what)
+    return tuple(tuple(row) for row in slices)
+
+
+def names(many):
+    """So many names of two letters."""
+    return ["abcdefghij"[k // 10] + "abcdefghij"[k % 10] for k in range(many)]
+
+
+def subsets(many):
+    """All ascending tuples of indices below many, to keep an index ahead of leaving it out, from 0 on (w2)."""
+    if many == 0:
+        return [()]
+    # Those of one index fewer, moved up by one, with 0 and then without it.
+    others = [tuple(k + 1 for k in pick) for pick in subsets(many - 1)]
+    return [(0,) + pick for pick in others] + others

@@ -21,6 +21,10 @@ FUNCTIONS = {
     "margins": ("longest_length(system, kind, index, segment)", "earliest_due(system, kind, index)",
                 "greatest_capacity(system, budget)", "least_gap(system, index)",
                 "longest_new(system, release, due, source)"),
+    "picks": ("picked(system, pick)", "best_pick(system, worths)", "full_picks(system)"),
+    "dangers": ("least_faults(system)", "bearable(system)"),
+    "sessions": ("shown_session(budgets, log)", "parse_session(text)"),
+    "charts": ("chart(system, arrivals, plan)",),
 }
 
 

@@ -10,61 +10,9 @@ from faultdue.demand import analysis
 from faultdue.plans import check_arrivals, check_plan, faults_of, needs
 from faultdue.schedules import run_of, verdict, worst_of
 from faultdue.text import parse
-from tests.helpers import drawn_arrivals, drawn_plan, drawn_systems, fits, plain_inside, plain_items
+from tests.helpers import drawn_arrivals, drawn_plan, drawn_systems, fits, plain_inside, plain_items, plain_run
 
 SYSTEMS = drawn_systems(150, seed=13)
-
-
-class PlainItem:
-    """An item as the unit by unit walk executes it."""
-
-    def __init__(self, item, counts):
-        self.release, self.due, self.done, self.segments = item
-        self.counts = counts
-        self.segment = self.attempt = 0
-        self.end = None
-        self.settle(self.release)
-
-    def settle(self, now):
-        """An attempt that is executed whole is found at once to be faulty or not (e3)."""
-        while self.end is None and self.done == self.segments[self.segment][0]:
-            self.done = 0
-            if self.attempt < self.counts.get(self.segment, 0):
-                self.attempt += 1
-            else:
-                self.segment, self.attempt = self.segment + 1, 0
-                self.end = now if self.segment == len(self.segments) else None
-
-
-def plain_run(system, arrivals, plan):
-    """The run, unit by unit."""
-    items = [
-        PlainItem(item, {segment: count for at, segment, count in plan if at == k})
-        for k, item in enumerate(plain_items(system, arrivals))
-    ]
-    units = []
-    now = 0
-    while any(item.end is None for item in items):
-        ready = [(item.due, k) for k, item in enumerate(items) if item.release <= now and item.end is None]
-        if ready:
-            k = min(ready)[1]
-            units.append((now, k, items[k].segment, items[k].attempt))
-            items[k].done += 1
-            items[k].settle(now + 1)
-        now += 1
-    ends = tuple(item.end for item in items)
-    return slices_of(units), ends, tuple(k for k, item in enumerate(items) if item.end > item.due)
-
-
-def slices_of(units):
-    """The longest stretches of the units."""
-    slices = []
-    for time, *what in units:
-        if slices and slices[-1][1] == time and slices[-1][2:] == what:
-            slices[-1][1] += 1
-        else:
-            slices.append([time, time + 1] + what)
-    return tuple(tuple(row) for row in slices)
 
 
 def schedule_of(slices):

@@ -4,7 +4,7 @@ import unittest
 
 from faultdue import systems as module
 from faultdue.systems import check_system, horizon_of, latest_of, rate_of, work_of
-from tests.helpers import NO_INTEGERS, put, refusal
+from tests.helpers import NO_INTEGERS, names, put, refusal
 
 BUDGETS = (("all", 2, -1), ("disk", 1, 0))
 JOB = ("job", "a", 5, 20, 1, ((4, 1), (3, 0)))
@@ -36,10 +36,6 @@ def with_task(at, value):
 def with_segment(segment):
     """Two systems, with this segment as the second one of a job and of a task."""
     return with_job(5, ((4, 1), segment)), with_task(5, ((2, 1), segment))
-
-
-def names(many):
-    return ["abcdefghij"[k // 10] + "abcdefghij"[k % 10] for k in range(many)]
 
 
 def jobs_of(many):

@@ -5,7 +5,7 @@ import unittest
 from faultdue import text as module
 from faultdue.systems import check_system
 from faultdue.text import parse, shown
-from tests.helpers import drawn_systems, put, refusal
+from tests.helpers import drawn_systems, names, put, refusal
 
 HEAD = "budget all 2\nbudget disk 1 in all\n"
 JOB = "job a 0 to 20 do 4 disk 3 all"
@@ -13,10 +13,6 @@ TASK = "task b from 2 gap 30 due 7 do 2 disk"
 SYSTEM = ("system", (("all", 2, -1), ("disk", 1, 0)), (("job", "a", 0, 20, 0, ((4, 1), (3, 0))),),
           (("task", "b", 2, 30, 7, ((2, 1),)),))
 EMPTY = ("system", (("all", 2, -1),), (), ())
-
-
-def names(many):
-    return ["abcdefghij"[k // 10] + "abcdefghij"[k % 10] for k in range(many)]
 
 
 class InterfaceTest(unittest.TestCase):
