@@ -3,6 +3,8 @@ import importlib
 import inspect
 import unittest
 
+from faultdue.desk import Desk
+
 FUNCTIONS = {
     "budgets": ("check_budgets(budgets)", "above(budgets, k)", "used(budgets, faults)", "is_within(budgets, faults)",
                 "remaining(budgets, faults)", "most_faults(budgets, sources)"),
@@ -25,7 +27,13 @@ FUNCTIONS = {
     "dangers": ("least_faults(system)", "bearable(system)"),
     "sessions": ("shown_session(budgets, log)", "parse_session(text)"),
     "charts": ("chart(system, arrivals, plan)",),
+    "papertext": ("shown_paper(paper)", "parse_paper(text, many)"),
+    "tables": ("table(system)",),
+    "replay": ("replay(budgets, log)",),
 }
+METHODS = ("__init__(self, budgets)", "admit(self, thing)", "arrive(self, name)", "cancel(self, name)",
+           "grant(self, budget, more)", "run(self, until)", "report(self, faulty)", "undo(self)", "now(self)",
+           "pending(self)", "remaining(self)", "finished(self)", "log(self)")
 
 
 class SignatureTest(unittest.TestCase):
@@ -36,6 +44,12 @@ class SignatureTest(unittest.TestCase):
                 function = getattr(module, told.partition("(")[0])
                 self.assertEqual(function.__name__ + str(inspect.signature(function)), told)
                 self.assertEqual(function.__module__, f"faultdue.{name}")
+
+    def test_methods_of_the_desk(self):
+        self.assertEqual(Desk.__module__, "faultdue.desk")
+        for told in METHODS:
+            method = vars(Desk)[told.partition("(")[0]]
+            self.assertEqual(method.__name__ + str(inspect.signature(method)), told)
 
 
 if __name__ == "__main__":
