@@ -30,7 +30,7 @@ class Desk:
         self._pending = ""
         self._finished = ()
         self._log = []
-        # For each entry of the log what the desk was ahead of it: all of it are tuples, which nothing changes.
+        # What the desk was ahead of each entry of the log, in tuples: nothing changes them any more.
         self._past = []
 
     def admit(self, thing):

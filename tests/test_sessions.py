@@ -185,6 +185,7 @@ class LineTest(unittest.TestCase):
             "arrive", "arrive b c", "arrive task b", "cancel", "cancel b c", "grant", "grant disk", "grant disk 3 4",
             "grant disk 3 in all", "run", "run 5 6", "run to 5", "report", "report bad", "report Good", "report good good",
             "report faulty all", "report 1", "report True", "undo",
+            "x good", "reports faulty", "grant good", "undo faulty", "good", "faulty",
         )
 
     def test_not_a_name(self):
